@@ -1,0 +1,1 @@
+"""Words grown by rules. The calls are asked through grownwords.desk.answers."""
