@@ -6,6 +6,10 @@ BEGIN = 0
 READ = 1
 LONG = 2
 OFTEN = 3
+PART = 4
+WALK = 5
+# How many numbers each call has, its own number too, but without the text of read.
+SIZES = (1, 2, 2, 3, 4, 2, 6)
 
 
 class UnknownCall(ValueError):
@@ -15,15 +19,12 @@ class UnknownCall(ValueError):
 def end_of_call(calls, start):
     """The place behind the call that begins at the place start."""
     number = calls[start]
-    if number == BEGIN:
-        return start + 1
+    if number < 0 or number >= len(SIZES):
+        raise UnknownCall(f"no call has the number {number}")
+    end = start + SIZES[number]
     if number == READ:
-        return start + 2 + calls[start + 1]
-    if number == LONG:
-        return start + 2
-    if number == OFTEN:
-        return start + 3
-    raise UnknownCall(f"no call has the number {number}")
+        return end + calls[start + 1]
+    return end
 
 
 def answer_of(grower, call):
@@ -34,7 +35,13 @@ def answer_of(grower, call):
         return grower.read(call[2:])
     if number == LONG:
         return grower.long(call[1])
-    return grower.often(call[1], call[2])
+    if number == OFTEN:
+        return grower.often(call[1], call[2])
+    if number == PART:
+        return grower.part(call[1], call[2], call[3])
+    if number == WALK:
+        return grower.walk(call[1])
+    return grower.picture(call[1], call[2], call[3], call[4], call[5])
 
 
 def answers(calls):

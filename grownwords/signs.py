@@ -1,18 +1,30 @@
 """The signs that words are made of, as bytes, and what is a word."""
 
 MOST_SIGNS = 256
+GOING = 46
+LEFT = 43
+RIGHT = 45
+AROUND = 124
 OPENING = 91
 CLOSING = 93
 # . + - | [ ]
 MARKS = (46, 43, 45, 124, 91, 93)
 
 
+def is_capital(byte):
+    return ord("A") <= byte <= ord("Z")
+
+
 def is_letter(byte):
-    return ord("A") <= byte <= ord("Z") or ord("a") <= byte <= ord("z")
+    return is_capital(byte) or ord("a") <= byte <= ord("z")
 
 
 def is_sign(byte):
     return is_letter(byte) or byte in MARKS
+
+
+def all_signs():
+    return [byte for byte in range(128) if is_sign(byte)]
 
 
 def brackets_match(signs):

@@ -45,6 +45,10 @@ def first_wrong_line(lines):
     return 0
 
 
+def directions_of(lines):
+    return 4 if lines[0] == [ord("4")] else 6
+
+
 def first_word_of(lines):
     return lines[1]
 

@@ -7,6 +7,8 @@ OUT_OF_RANGE = -8
 TOO_LONG = -6
 LEAST_W = -2147483648
 GREATEST_W = 2147483647
+LEAST_PLACE = -9223372036854775808
+GREATEST_PLACE = 9223372036854775807
 
 
 def begin():
@@ -25,6 +27,18 @@ def long(n):
 
 def often(n, c):
     return [3, n, ord(c) if isinstance(c, str) else c]
+
+
+def part(n, first, most):
+    return [4, n, first, most]
+
+
+def walk(n):
+    return [5, n]
+
+
+def picture(n, x, y, w, h):
+    return [6, n, x, y, w, h]
 
 
 def split_answers(told):
@@ -48,6 +62,24 @@ def ask_numbers(*calls):
     found = ask(*calls)
     assert all(len(answer) == 1 for answer in found)
     return [answer[0] for answer in found]
+
+
+def ask_last(*calls):
+    """The answer to the last of these calls."""
+    return ask(*calls)[-1]
+
+
+def first_difference(found, wanted):
+    """The first place at which two lists differ, with what is there; None if they are the same.
+
+    Of long lists unittest's own comparison takes minutes to tell.
+    """
+    if found == wanted:
+        return None
+    for place in range(min(len(found), len(wanted))):
+        if found[place] != wanted[place]:
+            return place, found[place], wanted[place]
+    return "lengths", len(found), len(wanted)
 
 
 def read_answer(text):

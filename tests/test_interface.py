@@ -2,7 +2,8 @@
 
 import unittest
 
-from asking import ask_numbers, begin, long, often, read
+from asking import (GREATEST_PLACE, GREATEST_W, LEAST_PLACE, LEAST_W, ask, ask_numbers, begin, long, often, part,
+                    picture, read, walk)
 from grownwords.desk import answers
 
 
@@ -16,9 +17,14 @@ class Untouchable(list):
     append = extend = insert = pop = remove = clear = sort = reverse = refuse
 
 
-MIXED = (long(0) + begin() + read("4\nA\nA=AB\nB=A") + long(5) + often(5, "A") + long(65) + read("6\n[") + long(5)
-         + read("6\nA\n") + often(64, "A") + begin() + often(0, "A"))
-MIXED_ANSWERS = [1, -9, 1, 0, 1, 2, 1, 13, 1, 8, 1, -8, 1, -102, 1, -9, 1, 0, 1, 1, 1, 0, 1, -9]
+MIXED = (long(0) + walk(3) + begin() + read("4\nA\nA=AB\nB=A") + long(5) + part(3, 1, 3) + often(5, "A") + long(65)
+         + walk(2) + picture(1, 0, 0, 4, 1) + part(0, -1, 0) + read("6\n[") + long(5) + part(0, 0, 0)
+         + picture(0, 0, 0, 1, 1) + read("6\n++A-\n") + often(64, "A") + picture(7, -1, 0, 2, 2) + walk(64)
+         + part(0, 4, 5) + picture(0, 0, 0, 0, 0) + begin() + often(0, "A"))
+MIXED_ANSWERS = [1, -9, 1, -9, 1, 0, 1, 2, 1, 13, 4, 3, 66, 65, 65, 1, 8, 1, -8,
+                 8, 0, 3, 0, 0, 0, 0, 3, 0, 5, 0, 1, 1, 1, 0, 1, -8, 1, -102, 1, -9, 1, -9,
+                 1, -9, 1, 0, 1, 1, 5, 0, 0, 1, 1, 0, 8, 0, -1, 1, 1, -1, 0, 0, 1,
+                 1, 0, 1, -8, 1, 0, 1, -9]
 
 
 class Lists(unittest.TestCase):
@@ -29,6 +35,12 @@ class Lists(unittest.TestCase):
         self.assertEqual(answers([1, 3, 52, 10, 65, 2, 0, 3, 0, 65]), [1, 0, 1, 1, 1, 1])
         self.assertEqual(answers([2, 0]), [1, -9])
         self.assertEqual(answers([3, 0, 65]), [1, -9])
+        self.assertEqual(answers([4, 0, 0, 1]), [1, -9])
+        self.assertEqual(answers([5, 0]), [1, -9])
+        self.assertEqual(answers([6, 0, 0, 0, 1, 1]), [1, -9])
+        self.assertEqual(answers([1, 3, 52, 10, 65, 4, 0, 0, 1]), [1, 0, 2, 1, 65])
+        self.assertEqual(answers([1, 3, 52, 10, 65, 5, 0]), [1, 0, 8, 0, 1, 0, 0, 0, 0, 1, 0])
+        self.assertEqual(answers([1, 3, 52, 10, 65, 6, 0, 0, 0, 1, 2]), [1, 0, 3, 0, 1, 0])
 
     def test_several_calls_in_order(self):
         self.assertEqual(answers(list(MIXED)), MIXED_ANSWERS)
@@ -36,6 +48,17 @@ class Lists(unittest.TestCase):
     def test_numbers_that_look_like_calls(self):
         self.assertEqual(ask_numbers(read([0, 1, 2, 3]), long(1), often(3, 2), begin()), [-101, -9, -9, 0])
         self.assertEqual(ask_numbers(read("4\nA"), long(3), often(2, 3), often(3, 2), long(0)), [0, 1, 0, 0, 1])
+        calls = [read("4\nA"), part(6, 5, 4), walk(4), picture(5, 6, 4, 3, 2), part(1, 0, 2), walk(6)]
+        wanted = [[0], [0], [0, 1, 0, 0, 0, 0, 1, 0], [0] * 7, [1, 65], [0, 1, 0, 0, 0, 0, 1, 0]]
+        self.assertEqual(ask(*calls), wanted)
+
+    def test_numbers_at_the_ends_of_their_ranges(self):
+        calls = [read("4\nA"), long(LEAST_W), often(GREATEST_W, 4294967295),
+                 part(GREATEST_W, GREATEST_PLACE, GREATEST_W), part(LEAST_W, LEAST_PLACE, LEAST_W), walk(LEAST_W),
+                 picture(0, LEAST_PLACE, GREATEST_PLACE, 1, 1),
+                 picture(GREATEST_W, GREATEST_PLACE, LEAST_PLACE, GREATEST_W, LEAST_W),
+                 part(0, GREATEST_PLACE, GREATEST_W)]
+        self.assertEqual(ask(*calls), [[0], [-8], [-8], [-8], [-8], [-8], [0, 0], [-8], [0]])
 
     def test_whole_numbers(self):
         told = answers(list(MIXED))
@@ -46,6 +69,25 @@ class Lists(unittest.TestCase):
         calls = read("4\nA\nA=AA") + [number for n in range(99) for number in long(n)]
         wanted = [1] + [2 ** n if n < 62 else -6 if n < 65 else -8 for n in range(99)]
         self.assertEqual(answers(calls), [number for answer in wanted for number in (1, answer)])
+
+    def test_a_hundred_calls_of_all_kinds(self):
+        text = read("6\nA\nA=A+b\nb=[.A]")
+        seven = [begin(), text, long(5), often(5, "."), part(4, 3, 5), walk(6), picture(3, -2, -2, 4, 4)]
+        alone = [answers(text + call) for call in seven]
+        wanted = []
+        for told in alone[2:]:
+            wanted += told[2:]
+        wanted = [1, 0, 1, 2] + wanted
+        calls = [number for call in seven for number in call]
+        self.assertEqual(answers(calls * 14 + begin() + long(0)), wanted * 14 + [1, 0, 1, -9])
+
+    def test_as_many_answers_as_may_be(self):
+        calls = read("4\nA\nA=AB\nB=BA") + part(61, 7, 400000) + picture(2, 0, 0, 1000, 599) + walk(61) + long(0)
+        told = answers(calls)
+        self.assertLessEqual(len(told), 1000000)
+        self.assertEqual(told[:4], [1, 2, 400001, 400000])
+        self.assertEqual(told[400004:400012], [599001, 0, 1, 1, 1, 1, 1, 0])
+        self.assertEqual(told[-11:], [8, 0, 2 ** 61, 0, 0, 0, 0, 2 ** 61, 0, 1, 1])
 
     def test_longest_list(self):
         text = "4\n" + "A" * 256 + "".join("\n" + letter + "=" + "Ab+-" * 64 for letter in "ABCDEFGHIJKLMN")
@@ -79,6 +121,7 @@ class NothingChangedOrKept(unittest.TestCase):
     def test_no_rules_are_kept(self):
         self.assertEqual(ask_numbers(read("4\nA\nA=AA"), long(3)), [1, 8])
         self.assertEqual(ask_numbers(long(3), often(3, "A")), [-9, -9])
+        self.assertEqual(ask_numbers(part(3, 0, 1), walk(3), picture(3, 0, 0, 1, 1)), [-9, -9, -9])
         self.assertEqual(ask_numbers(read("4\nA"), long(3)), [0, 1])
 
 

@@ -1,29 +1,15 @@
-"""Points 4, 5 and 6: the n-th word, the refusals, long and often."""
+"""Points 4, 5 and 6: the n-th word, the refusals of all calls that tell of it, long and often."""
 
 import random
 import string
 import unittest
 
-from asking import (GREATEST_W, LEAST_W, NO_RULES, OUT_OF_RANGE, TOO_LONG, ask_numbers, begin, long, often, read)
+from asking import (GREATEST_W, LEAST_W, NO_RULES, OUT_OF_RANGE, TOO_LONG, ask, ask_numbers, begin, long, often, part,
+                    picture, read, walk)
+from plain import chain, next_word, random_system, text_of
 
 SIGNS = string.ascii_letters + ".+-|[]"
 LIMIT = 2 ** 62
-
-
-def next_word(word, rules):
-    return "".join(rules.get(sign, sign) for sign in word)
-
-
-def text_of(first, rules):
-    return "\n".join(["4", first] + [letter + "=" + rules[letter] for letter in rules])
-
-
-def chain(times, step, last):
-    """Rules of letters A, B, ..: each becomes what step tells of the next, the last one becomes last."""
-    letters = string.ascii_uppercase + string.ascii_lowercase
-    rules = {letters[k]: step(letters[k + 1]) for k in range(times)}
-    rules[letters[times]] = last
-    return rules
 
 
 class Growth(unittest.TestCase):
@@ -74,13 +60,9 @@ class Growth(unittest.TestCase):
 
     def test_against_words_written_down(self):
         chance = random.Random(6)
-        pieces = ["A", "B", "c", "d", ".", "+", "-", "|", "[A]", "[c+B]", "[]"]
         for number in range(30):
-            rules = {}
-            for letter in "ABcd":
-                if chance.random() < 0.8:
-                    rules[letter] = "".join(chance.choices(pieces, k=chance.randrange(4)))
-            self.check("".join(chance.choices(pieces, k=chance.randrange(6))), rules, 4)
+            first, rules = random_system(chance, 4)
+            self.check(first, rules, 4)
 
     def test_largest_rules(self):
         letters = string.ascii_letters
@@ -117,28 +99,43 @@ class Refusals(unittest.TestCase):
 
     OUTSIDE = (-1, 65, LEAST_W, GREATEST_W)
 
-    def both(self, n):
-        return [long(n), often(n, "A"), often(n, 4294967295)]
+    def told_of(self, n):
+        """Every call that tells of the n-th word, with nothing else in it that would be refused."""
+        return [long(n), often(n, "A"), often(n, 4294967295), part(n, 0, 3), walk(n), picture(n, 0, 0, 2, 1)]
+
+    def check(self, ahead, n, refusal):
+        with self.subTest(ahead=ahead, n=n):
+            self.assertEqual(ask(*ahead, *self.told_of(n))[len(ahead):], [[refusal]] * 6)
 
     def test_range_of_n(self):
         for n in self.OUTSIDE:
-            with self.subTest(n=n):
-                self.assertEqual(ask_numbers(read("4\nA"), *self.both(n)), [0] + [OUT_OF_RANGE] * 3)
+            self.check([read("4\nA")], n, OUT_OF_RANGE)
         for n in (0, 1, 64):
             with self.subTest(n=n):
-                self.assertEqual(ask_numbers(read("4\nA"), *self.both(n)), [0, 1, 1, 0])
+                wanted = [[0], [1], [1], [0], [1, ord("A")], [0, 1, 0, 0, 0, 0, 1, 0], [0, 1, 1]]
+                self.assertEqual(ask(read("4\nA"), *self.told_of(n)), wanted)
 
     def test_no_rules_comes_first(self):
+        good = read("4\nA\nA=AA")
         for n in self.OUTSIDE + (0, 1, 64):
-            for ahead in (begin(), read(""), read("4\nA\nA=[")):
-                with self.subTest(n=n, ahead=ahead):
-                    self.assertEqual(ask_numbers(ahead, *self.both(n))[1:], [NO_RULES] * 3)
+            for ahead in ([], [begin()], [read("")], [read("4\nA\nA=[")], [good, begin()], [good, read("4\n[")]):
+                self.check(ahead, n, NO_RULES)
 
     def test_range_comes_before_too_long(self):
         for n in self.OUTSIDE:
-            with self.subTest(n=n):
-                self.assertEqual(ask_numbers(read("4\nA\nA=AA"), *self.both(n)), [1] + [OUT_OF_RANGE] * 3)
-        self.assertEqual(ask_numbers(read("4\nA\nA=AA"), *self.both(64)), [1] + [TOO_LONG] * 3)
+            self.check([read("4\nA\nA=AA")], n, OUT_OF_RANGE)
+        for n in (62, 63, 64):
+            self.check([read("4\nA\nA=AA")], n, TOO_LONG)
+
+    def test_earlier_word_too_long(self):
+        rules = chain(31, lambda letter: letter * 4, "")
+        for n in (31, 32, 33, 64):
+            self.check([read(text_of("A", rules))], n, TOO_LONG)
+
+    def test_first_word_alone_has_words(self):
+        for text in ("4\n", "6\n"):
+            calls = [read(text + "A"), walk(64), part(64, 0, 9), picture(64, 0, 0, 1, 1)]
+            self.assertEqual(ask(*calls), [[0], [0, 1, 0, 0, 0, 0, 1, 0], [1, ord("A")], [0, 1]])
 
     def test_a_refusal_changes_nothing(self):
         calls = [read("4\nA\nA=AA"), long(65), long(64), long(-1), long(5)]
